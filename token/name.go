@@ -1,6 +1,10 @@
 package token
 
-import "unicode/utf8"
+import (
+	"unicode/utf8"
+
+	"vitrine/char"
+)
 
 // maxHex is how many hex digits of an escape count.
 const maxHex = 6
@@ -13,20 +17,8 @@ func byteAt(s string, i int) byte {
 	return 0
 }
 
-func isDigit(b byte) bool { return '0' <= b && b <= '9' }
-
-func isLetter(b byte) bool { return 'a' <= b && b <= 'z' || 'A' <= b && b <= 'Z' }
-
-func isSpace(b byte) bool { return b == '\n' || b == '\t' || b == ' ' }
-
-func isQuote(b byte) bool { return b == '"' || b == '\'' }
-
-func startsName(b byte) bool { return isLetter(b) || b == '_' || b >= utf8.RuneSelf }
-
-func isOfName(b byte) bool { return startsName(b) || isDigit(b) || b == '-' }
-
 func behindSpaces(s string, i int) int {
-	for isSpace(byteAt(s, i)) {
+	for char.IsSpace(byteAt(s, i)) {
 		i++
 	}
 	return i
@@ -35,7 +27,7 @@ func behindSpaces(s string, i int) int {
 // hexDigit returns the value of a hex digit, and whether it is one.
 func hexDigit(b byte) (rune, bool) {
 	switch {
-	case isDigit(b):
+	case char.IsDigit(b):
 		return rune(b - '0'), true
 	case 'a' <= b && b <= 'f':
 		return rune(b-'a') + 10, true
@@ -68,7 +60,7 @@ func appendEscape(b []byte, s string, i int) ([]byte, int) {
 		code = code<<4 | digit
 		i++
 	}
-	if isSpace(byteAt(s, i)) {
+	if char.IsSpace(byteAt(s, i)) {
 		i++
 	}
 	// AppendRune replaces what is no code point, but 0 is one.
@@ -80,14 +72,14 @@ func appendEscape(b []byte, s string, i int) ([]byte, int) {
 
 func nameStarts(s string, i int) bool {
 	if byteAt(s, i) != '-' {
-		return startsName(byteAt(s, i)) || escapeStarts(s, i)
+		return char.StartsName(byteAt(s, i)) || escapeStarts(s, i)
 	}
 	next := byteAt(s, i+1)
-	return startsName(next) || next == '-' || escapeStarts(s, i+1)
+	return char.StartsName(next) || next == '-' || escapeStarts(s, i+1)
 }
 
 func nameGoesOn(s string, i int) bool {
-	return isOfName(byteAt(s, i)) || escapeStarts(s, i)
+	return char.IsOfName(byteAt(s, i)) || escapeStarts(s, i)
 }
 
 // readName returns the name at i, and where it ends.

@@ -4,6 +4,7 @@ import (
 	"strings"
 
 	"vitrine/api"
+	"vitrine/char"
 )
 
 const (
@@ -24,18 +25,18 @@ func digitStarts(s string, i int) bool {
 	if isSign(byteAt(s, i)) {
 		i++
 	}
-	return isDigit(byteAt(s, i))
+	return char.IsDigit(byteAt(s, i))
 }
 
 func fractionStarts(s string, i int) bool {
-	return byteAt(s, i) == '.' && isDigit(byteAt(s, i+1))
+	return byteAt(s, i) == '.' && char.IsDigit(byteAt(s, i+1))
 }
 
 func numberStarts(s string, i int) bool {
 	if isSign(byteAt(s, i)) {
 		i++
 	}
-	return isDigit(byteAt(s, i)) || fractionStarts(s, i)
+	return char.IsDigit(byteAt(s, i)) || fractionStarts(s, i)
 }
 
 // readNumber returns the value of the number at i in thousandths, whether it is an integer, and where it ends.
@@ -49,7 +50,7 @@ func readNumber(s string, i int) (n int64, integer bool, end int) {
 	}
 	digits := func() string {
 		start := i
-		for isDigit(byteAt(s, i)) {
+		for char.IsDigit(byteAt(s, i)) {
 			i++
 		}
 		return s[start:i]

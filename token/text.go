@@ -1,6 +1,9 @@
 package token
 
-import "vitrine/api"
+import (
+	"vitrine/api"
+	"vitrine/char"
+)
 
 // readString returns the string at i, where its quotation mark is, and where it ends.
 func readString(s string, i int) (api.Token, int) {
@@ -43,7 +46,7 @@ func readURL(s string, i int) (api.Token, int) {
 url:
 	for i < len(s) && s[i] != ')' {
 		switch {
-		case isSpace(s[i]):
+		case char.IsSpace(s[i]):
 			i = behindSpaces(s, i)
 			if i < len(s) && s[i] != ')' {
 				break url
